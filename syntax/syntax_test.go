@@ -1,0 +1,83 @@
+package syntax
+
+import (
+	"reflect"
+	"testing"
+)
+
+func TestCut(t *testing.T) {
+	for _, c := range []struct {
+		text string
+		want []mark
+	}{
+		{"", []mark{{end, 0, ""}}},
+		{" \n ", []mark{{end, 3, ""}}},
+		{"ab12X", []mark{{word, 0, "ab"}, {number, 2, "12"}, {variable, 4, "X"}, {end, 5, ""}}},
+		{"XY", []mark{{variable, 0, "X"}, {variable, 1, "Y"}, {end, 2, ""}}},
+		{"ab cd", []mark{{word, 0, "ab"}, {word, 3, "cd"}, {end, 5, ""}}},
+		{"1 2", []mark{{number, 0, "1"}, {number, 2, "2"}, {end, 3, ""}}},
+		{"abcd abcde", []mark{{word, 0, "abcd"}, {nothing, 5, "abcde"}, {end, 10, ""}}},
+		{"0 00 01 10 999 1000", []mark{
+			{number, 0, "0"}, {nothing, 2, "00"}, {nothing, 5, "01"}, {number, 8, "10"},
+			{number, 11, "999"}, {nothing, 15, "1000"}, {end, 19, ""},
+		}},
+		{":- : - :--", []mark{
+			{sign, 0, ":-"}, {sign, 3, ":"}, {nothing, 5, "-"},
+			{sign, 7, ":-"}, {nothing, 9, "-"}, {end, 10, ""},
+		}},
+		{"..(,", []mark{{sign, 0, "."}, {sign, 1, "."}, {sign, 2, "("}, {sign, 3, ","}, {end, 4, ""}}},
+		{"é\xffa\t", []mark{
+			{nothing, 0, "é"}, {nothing, 2, "\ufffd"}, {word, 3, "a"}, {nothing, 4, "\t"}, {end, 5, ""},
+		}},
+	} {
+		if got := cut(c.text); !reflect.DeepEqual(got, c.want) {
+			t.Errorf("cut(%q) = %v, want %v", c.text, got, c.want)
+		}
+	}
+}
+
+func TestReadProgramAnswersTheTree(t *testing.T) {
+	text := "p(a,X) :- q ( X ) , ! r(10),\nX = b, X#Y, 0 < ab. s(0)."
+	want := []Clause{
+		{
+			Head: Atom{0, "p", []Term{{Thing: "a"}, {Variable: 'X'}}},
+			Body: []Literal{
+				{Place: 10, Sort: Present, Atom: Atom{10, "q", []Term{{Variable: 'X'}}}},
+				{Place: 20, Sort: Absent, Atom: Atom{22, "r", []Term{{Thing: "10"}}}},
+				{Place: 29, Sort: Same, Left: Term{Variable: 'X'}, Right: Term{Thing: "b"}},
+				{Place: 36, Sort: Other, Left: Term{Variable: 'X'}, Right: Term{Variable: 'Y'}},
+				{Place: 41, Sort: Ahead, Left: Term{Thing: "0"}, Right: Term{Thing: "ab"}},
+			},
+		},
+		{Head: Atom{49, "s", []Term{{Thing: "0"}}}},
+	}
+	got, place, ok := ReadProgram(text)
+	if !ok || place != 0 || !reflect.DeepEqual(got, want) {
+		t.Errorf("ReadProgram(%q) = %v, %d, %v, want %v", text, got, place, ok, want)
+	}
+}
+
+func TestReadProgramAnswersNoTreeOfABrokenText(t *testing.T) {
+	got, place, ok := ReadProgram("p(a). q(a) r(a).")
+	if got != nil || place != 11 || ok {
+		t.Errorf("ReadProgram = %v, %d, %v", got, place, ok)
+	}
+}
+
+func TestAtomsAndTermsStandInTheirOrder(t *testing.T) {
+	clauses, _, _ := ReadProgram("p(a,X) :- Y = b, !q(c), r(Z,1).")
+	var names string
+	for _, atom := range clauses[0].Atoms() {
+		names += atom.Name
+	}
+	var terms string
+	for _, term := range clauses[0].Terms() {
+		if term.Variable != 0 {
+			terms += string(term.Variable)
+		}
+		terms += term.Thing
+	}
+	if names != "pqr" || terms != "aXYbcZ1" {
+		t.Errorf("Atoms have the names %q, Terms are %q", names, terms)
+	}
+}
