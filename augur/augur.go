@@ -1,6 +1,8 @@
 // Package augur tells what follows from rules: see DOC.md.
 package augur
 
+import "augur/infer"
+
 // Errno is what a call answers: OK or the reason for a refusal.
 type Errno int
 
@@ -23,7 +25,13 @@ func Check(program string) (Errno, int) {
 }
 
 // Follow tells all that follows (P4, P5).
-func Follow(program string) (string, Errno, int) { return "", OK, 0 }
+func Follow(program string) (string, Errno, int) {
+	clauses, e, place := load(program)
+	if e != OK {
+		return "", e, place
+	}
+	return infer.Follow(clauses).String(), OK, 0
+}
 
 // Ask answers a question (P6).
 func Ask(program string, question string) (string, Errno, int) { return "", OK, 0 }

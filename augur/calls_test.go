@@ -85,9 +85,12 @@ func TestLongTextsCostNothing(t *testing.T) {
 		if e, place := augur.Check(long); e != augur.ErrLong || place != 0 {
 			t.Errorf("P1: Check of %d bytes = %d, %d", len(long), e, place)
 		}
+		if answer, e, place := augur.Follow(long); answer != "" || e != augur.ErrLong || place != 0 {
+			t.Errorf("P1: Follow of %d bytes = %q, %d, %d", len(long), answer, e, place)
+		}
 	})
 	if spent != 0 {
-		t.Errorf("P1: Check of %d bytes took memory %v times", len(long), spent)
+		t.Errorf("P1: Check and Follow of %d bytes took memory %v times", len(long), spent)
 	}
 }
 

@@ -1,6 +1,7 @@
 package augur
 
 import (
+	"augur/facts"
 	"augur/rising"
 	"augur/syntax"
 )
@@ -54,8 +55,8 @@ func checkClauses(clauses []syntax.Clause) (Errno, int) {
 // census is what the clauses up to one have used.
 type census struct {
 	clauses int
-	names   []string // rising
-	things  []string // rising
+	names   []string      // rising
+	things  []facts.Thing // rising
 	arities []arity
 }
 

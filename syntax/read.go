@@ -1,5 +1,7 @@
 package syntax
 
+import "augur/facts"
+
 // reader goes through the marks of a text. Its methods that answer an ok of
 // false have set the place at which the text breaks off.
 type reader struct {
@@ -158,7 +160,7 @@ func (r *reader) term() (Term, bool) {
 	var term Term
 	switch next.kind {
 	case word, number:
-		term.Thing = next.text
+		term.Thing = facts.ThingOf(next.text)
 	case variable:
 		for _, letter := range next.text {
 			term.Variable = letter

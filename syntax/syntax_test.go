@@ -43,13 +43,13 @@ func TestReadProgramAnswersTheTree(t *testing.T) {
 			Head: Atom{0, "p", []Term{{Thing: "a"}, {Variable: 'X'}}},
 			Body: []Literal{
 				{Place: 10, Sort: Present, Atom: Atom{10, "q", []Term{{Variable: 'X'}}}},
-				{Place: 20, Sort: Absent, Atom: Atom{22, "r", []Term{{Thing: "10"}}}},
+				{Place: 20, Sort: Absent, Atom: Atom{22, "r", []Term{{Thing: "010"}}}},
 				{Place: 29, Sort: Same, Left: Term{Variable: 'X'}, Right: Term{Thing: "b"}},
 				{Place: 36, Sort: Other, Left: Term{Variable: 'X'}, Right: Term{Variable: 'Y'}},
-				{Place: 41, Sort: Ahead, Left: Term{Thing: "0"}, Right: Term{Thing: "ab"}},
+				{Place: 41, Sort: Ahead, Left: Term{Thing: "000"}, Right: Term{Thing: "ab"}},
 			},
 		},
-		{Head: Atom{49, "s", []Term{{Thing: "0"}}}},
+		{Head: Atom{49, "s", []Term{{Thing: "000"}}}},
 	}
 	got, place, ok := ReadProgram(text)
 	if !ok || place != 0 || !reflect.DeepEqual(got, want) {
@@ -75,7 +75,7 @@ func TestAtomsAndTermsStandInTheirOrder(t *testing.T) {
 		if term.Variable != 0 {
 			terms += string(term.Variable)
 		}
-		terms += term.Thing
+		terms += term.Thing.String()
 	}
 	if names != "pqr" || terms != "aXYbcZ1" {
 		t.Errorf("Atoms have the names %q, Terms are %q", names, terms)

@@ -1,10 +1,12 @@
 // Package syntax reads texts of clauses into trees.
 package syntax
 
+import "augur/facts"
+
 // Term is a VARIABLE or a thing.
 type Term struct {
-	Variable rune   // 0, if the term is a thing
-	Thing    string // a word or a NUMBER; empty, if the term is a VARIABLE
+	Variable rune        // 0, if the term is a thing
+	Thing    facts.Thing // empty, if the term is a VARIABLE
 }
 
 // Atom is a relation's name with its arguments.
