@@ -34,10 +34,34 @@ func Follow(program string) (string, Errno, int) {
 }
 
 // Ask answers a question (P6).
-func Ask(program string, question string) (string, Errno, int) { return "", OK, 0 }
+func Ask(program string, question string) (string, Errno, int) {
+	clauses, e, place := load(program)
+	if e != OK {
+		return "", e, place
+	}
+	body, e, place := loadQuestion(question, clauses)
+	if e != OK {
+		return "", e, place
+	}
+	return answers(clauses, body), OK, 0
+}
 
 // Why tells a reason for a fact (P7).
-func Why(program string, fact string) (string, Errno, int) { return "", OK, 0 }
+func Why(program string, fact string) (string, Errno, int) {
+	clauses, e, place := load(program)
+	if e != OK {
+		return "", e, place
+	}
+	sought, ok := loadFact(fact)
+	if !ok {
+		return "", ErrForm, 0
+	}
+	lines := reason(clauses, sought)
+	if lines == "" {
+		return "", ErrNone, 0
+	}
+	return lines, OK, 0
+}
 
 // Base is a program and facts beside it. Make it by Start.
 type Base struct{}

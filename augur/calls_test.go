@@ -75,6 +75,10 @@ func TestPlacesAreOfTheText(t *testing.T) {
 		if place < 0 || place > len(text) || e == augur.OK && place != 0 {
 			t.Errorf("P1: Check(%q) = %d, %d", text, e, place)
 		}
+		answer, e, place := augur.Ask("p(a).", text)
+		if place < 0 || place > len(text) || e == augur.OK && place != 0 || e != augur.OK && answer != "" {
+			t.Errorf("P1: Ask(.., %q) = %q, %d, %d", text, answer, e, place)
+		}
 	}
 }
 
@@ -88,9 +92,35 @@ func TestLongTextsCostNothing(t *testing.T) {
 		if answer, e, place := augur.Follow(long); answer != "" || e != augur.ErrLong || place != 0 {
 			t.Errorf("P1: Follow of %d bytes = %q, %d, %d", len(long), answer, e, place)
 		}
+		if answer, e, place := augur.Ask(long, long); answer != "" || e != augur.ErrLong || place != 0 {
+			t.Errorf("P1: Ask of %d bytes = %q, %d, %d", len(long), answer, e, place)
+		}
+		if answer, e, place := augur.Why(long, long); answer != "" || e != augur.ErrLong || place != 0 {
+			t.Errorf("P1: Why of %d bytes = %q, %d, %d", len(long), answer, e, place)
+		}
 	})
 	if spent != 0 {
-		t.Errorf("P1: Check and Follow of %d bytes took memory %v times", len(long), spent)
+		t.Errorf("P1: the calls with %d bytes took memory %v times", len(long), spent)
+	}
+}
+
+// P1: nor is a question or a fact that is too long; the program is.
+func TestLongQuestionsAndFactsCostNothing(t *testing.T) {
+	const program = "p(a). q(X) :- p(X)."
+	ofProgram := testing.AllocsPerRun(10, func() { augur.Check(program) })
+	long := strings.Repeat("p(a),", 1_000_000)
+	ofQuestion := testing.AllocsPerRun(10, func() {
+		if answer, e, place := augur.Ask(program, long); answer != "" || e != augur.ErrLong || place != 0 {
+			t.Errorf("P1: Ask of %d bytes = %q, %d, %d", len(long), answer, e, place)
+		}
+	})
+	ofFact := testing.AllocsPerRun(10, func() {
+		if answer, e, place := augur.Why(program, long); answer != "" || e != augur.ErrForm || place != 0 {
+			t.Errorf("P1: Why of %d bytes = %q, %d, %d", len(long), answer, e, place)
+		}
+	})
+	if ofQuestion != ofProgram || ofFact != ofProgram {
+		t.Errorf("P1: memory was taken %v and %v times, of the program %v", ofQuestion, ofFact, ofProgram)
 	}
 }
 

@@ -42,7 +42,7 @@ func checkClauses(clauses []syntax.Clause) (Errno, int) {
 		if seen.isTooMany() || isTooGreat(clause) {
 			return ErrMany, clause.Head.Place
 		}
-		if place, found := seen.findOtherArity(clause); found {
+		if place, found := findArity(clause.Atoms(), clauses); found {
 			return ErrArity, place
 		}
 		if place, found := findUnsafe(clause); found {
@@ -57,16 +57,9 @@ type census struct {
 	clauses int
 	names   []string      // rising
 	things  []facts.Thing // rising
-	arities []arity
 }
 
-// arity is the number of arguments with which a relation stands first.
-type arity struct {
-	name string
-	args int
-}
-
-// count takes a clause in, but for its arities.
+// count takes a clause in.
 func (c *census) count(clause syntax.Clause) {
 	c.clauses++
 	c.names = addNames(c.names, clause)
@@ -91,61 +84,60 @@ func isTooGreat(clause syntax.Clause) bool {
 	return len(clause.Body) > maxBody
 }
 
-// findOtherArity takes the clause's arities in, up to the first atom that has
-// another one than its relation had, and tells that atom's place.
-func (c *census) findOtherArity(clause syntax.Clause) (int, bool) {
-	for _, atom := range clause.Atoms() {
-		own := arity{atom.Name, len(atom.Terms)}
-		known, found := c.arityOf(atom.Name)
-		if !found {
-			c.arities = append(c.arities, own)
-		} else if known != own {
+// findArity tells the place of the first atom that has too many arguments, or
+// another number than the first one of its name in the program.
+func findArity(atoms []syntax.Atom, program []syntax.Clause) (int, bool) {
+	for _, atom := range atoms {
+		args, found := arityOf(atom.Name, program)
+		if len(atom.Terms) > maxArgs || found && len(atom.Terms) != args {
 			return atom.Place, true
 		}
 	}
 	return 0, false
 }
 
-func (c *census) arityOf(name string) (arity, bool) {
-	for _, known := range c.arities {
-		if known.name == name {
-			return known, true
+// arityOf tells with how many arguments a relation stands first in a program,
+// if it does.
+func arityOf(name string, program []syntax.Clause) (int, bool) {
+	for _, clause := range program {
+		for _, atom := range clause.Atoms() {
+			if atom.Name == name {
+				return len(atom.Terms), true
+			}
 		}
 	}
-	return arity{}, false
+	return 0, false
 }
 
 // findUnsafe tells the place of the head, or of the first literal, that has a
 // VARIABLE which nothing binds.
 func findUnsafe(clause syntax.Clause) (int, bool) {
-	loose := looseVariables(clause)
-	if len(rising.Common(variables(clause.Head.Terms), loose)) > 0 {
+	if isLoose(clause.Head.Terms, clause.Body) {
 		return clause.Head.Place, true
 	}
-	return findVariable(clause.Body, loose)
+	return findUnsafeLiteral(clause.Body)
 }
 
-// findVariable tells the place of the first literal that has one of the
-// VARIABLEs.
-func findVariable(body []syntax.Literal, sought []rune) (int, bool) {
+// findUnsafeLiteral is findUnsafe where there is no head.
+func findUnsafeLiteral(body syntax.Body) (int, bool) {
 	for _, literal := range body {
-		if len(rising.Common(variables(literal.Terms()), sought)) > 0 {
+		if isLoose(literal.Terms(), body) {
 			return literal.Place, true
 		}
 	}
 	return 0, false
 }
 
-// looseVariables answers, rising, the clause's VARIABLEs that stand in no atom
+// isLoose tells whether one of the terms is a VARIABLE that stands in no atom
 // of the body without `!`.
-func looseVariables(clause syntax.Clause) []rune {
+func isLoose(terms []syntax.Term, body syntax.Body) bool {
 	var binding []syntax.Term
-	for _, literal := range clause.Body {
+	for _, literal := range body {
 		if literal.Sort == syntax.Present {
 			binding = append(binding, literal.Atom.Terms...)
 		}
 	}
-	return rising.Without(variables(clause.Terms()), variables(binding))
+	return len(rising.Without(variables(terms), variables(binding))) > 0
 }
 
 // variables answers the VARIABLEs among the terms, rising.

@@ -1,6 +1,7 @@
 package augur_test
 
 import (
+	"maps"
 	"math/rand"
 	"sort"
 	"strconv"
@@ -122,27 +123,43 @@ func collect(rules []rule) (variables [][]string, things []string) {
 	return variables, things
 }
 
-// ground answers the rules with all things in place of their VARIABLEs.
-func ground(rules []rule) []rule {
-	variables, things := collect(rules)
+// instances answers the rule with all of the things in place of its VARIABLEs.
+func (r rule) instances(things []string) []rule {
+	variables, _ := collect([]rule{r})
 	var all []rule
-	var fill func(r rule, open []string, values map[string]string)
-	fill = func(r rule, open []string, values map[string]string) {
-		if len(open) > 0 {
-			for _, thing := range things {
-				values[open[0]] = thing
-				fill(r, open[1:], values)
-			}
-			return
-		}
+	forAll(variables[0], things, func(values map[string]string) {
 		filled := rule{head: r.head.put(values)}
 		for _, literal := range r.body {
 			filled.body = append(filled.body, literal.put(values))
 		}
 		all = append(all, filled)
+	})
+	return all
+}
+
+// forAll calls for all that the VARIABLEs can be, the first one's things first.
+func forAll(variables, things []string, call func(values map[string]string)) {
+	values := make(map[string]string)
+	var fill func(open []string)
+	fill = func(open []string) {
+		if len(open) == 0 {
+			call(values)
+			return
+		}
+		for _, thing := range things {
+			values[open[0]] = thing
+			fill(open[1:])
+		}
 	}
-	for i, r := range rules {
-		fill(r, variables[i], make(map[string]string))
+	fill(variables)
+}
+
+// ground answers the rules with all things in place of their VARIABLEs.
+func ground(rules []rule) []rule {
+	_, things := collect(rules)
+	var all []rule
+	for _, r := range rules {
+		all = append(all, r.instances(things)...)
 	}
 	return all
 }
@@ -166,19 +183,19 @@ func least(rules []rule, guess map[string]bool) map[string]bool {
 	return facts
 }
 
-// oracle answers all that follows, as Follow tells it.
-func oracle(rules []rule) string {
+// oracle answers all that follows.
+func oracle(rules []rule) map[string]bool {
 	all := ground(rules)
 	facts := least(all, nil)
 	// Each guess is right in one layer more, and there are few layers.
 	for range 20 {
 		next := least(all, facts)
-		if written(next) == written(facts) {
-			return written(facts)
+		if maps.Equal(next, facts) {
+			return facts
 		}
 		facts = next
 	}
-	return "the guesses come to no end"
+	panic("the guesses come to no end")
 }
 
 // written answers the facts in their order.
@@ -292,7 +309,7 @@ func TestFollowIsWhatTheOracleTells(t *testing.T) {
 			withAbsence++
 		}
 		got, e, place := augur.Follow(program)
-		if want := oracle(rules); got != want || e != augur.OK || place != 0 {
+		if want := written(oracle(rules)); got != want || e != augur.OK || place != 0 {
 			t.Errorf("P5: Follow(%q) = %q, %d, %d, want %q", program, got, e, place, want)
 		}
 	}

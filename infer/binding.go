@@ -42,6 +42,17 @@ func (b *binding) fact(atom syntax.Atom) facts.Fact {
 	return facts.Fact{Name: atom.Name, Things: things}
 }
 
+// needs answers what the atoms of a body say that have no `!` ahead.
+func (b *binding) needs(body syntax.Body) []facts.Fact {
+	var needs []facts.Fact
+	for _, literal := range body {
+		if literal.Sort == syntax.Present {
+			needs = append(needs, b.fact(literal.Atom))
+		}
+	}
+	return needs
+}
+
 // fits tells whether a fact of the atom's relation is what the atom says, as
 // far as it is not open.
 func (b *binding) fits(atom syntax.Atom, fact facts.Fact) bool {

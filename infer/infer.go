@@ -8,44 +8,86 @@ import (
 	"augur/syntax"
 )
 
-// Follow answers all that follows from the clauses. They must keep to what
-// Check asks: a relation that leans on its own absence has no layer.
+// Step is how a fact follows.
+type Step struct {
+	Fact   facts.Fact
+	Clause int          // the number, from 0 on, of the clause by which it does
+	needs  []facts.Fact // by the atoms without `!` of that clause's body
+}
+
+// course is the way from no facts to all that follow. The clauses must keep to
+// what Check asks: a relation that leans on its own absence has no layer.
+type course struct {
+	clauses []syntax.Clause
+	known   facts.Set
+	steps   []Step // one for each fact, behind those of all that it needs
+}
+
+// Follow answers all that follows from the clauses.
 func Follow(clauses []syntax.Clause) *facts.Set {
-	known := &facts.Set{}
+	return &goThrough(clauses).known
+}
+
+// Why answers the steps to a fact that are needed, in their order: none, if it
+// does not follow.
+func Why(clauses []syntax.Clause, fact facts.Fact) []Step {
+	var needed facts.Set
+	needed.Add(fact)
+	var reason []Step
+	// What a step needs stands ahead of it, and so is yet to come.
+	for _, step := range slices.Backward(goThrough(clauses).steps) {
+		if !needed.Has(step.Fact) {
+			continue
+		}
+		reason = append(reason, step)
+		for _, need := range step.needs {
+			needed.Add(need)
+		}
+	}
+	slices.Reverse(reason)
+	return reason
+}
+
+func goThrough(clauses []syntax.Clause) *course {
+	c := &course{clauses: clauses}
 	for _, layer := range layers(clauses) {
-		for grow(known, layer) {
+		for c.grow(layer) {
 		}
 	}
-	return known
+	return c
 }
 
-// grow adds the heads that follow by one round through the clauses, and tells
-// whether there were any.
-func grow(known *facts.Set, clauses []syntax.Clause) bool {
-	grown := false
-	for _, clause := range clauses {
-		for _, head := range newHeads(known, clause) {
-			known.Add(head)
-			grown = true
+// grow adds what follows by one round through a layer's clauses, and tells
+// whether that is anything.
+func (c *course) grow(layer []int) bool {
+	before := len(c.steps)
+	for _, number := range layer {
+		for _, step := range c.newSteps(number) {
+			c.known.Add(step.Fact)
+			c.steps = append(c.steps, step)
 		}
 	}
-	return grown
+	return len(c.steps) > before
 }
 
-// newHeads answers the heads that follow by a clause and are not known. The
+// newSteps answers the steps by a clause to facts that are not known. The
 // VARIABLEs of the head are bound first: for a head that is known the rest of
 // the body need not be looked at, and for another one only till it holds once.
-func newHeads(known *facts.Set, clause syntax.Clause) []facts.Fact {
-	s := &search{known: known, body: clause.Body, order: variables(clause.Terms())}
+func (c *course) newSteps(number int) []Step {
+	clause := c.clauses[number]
+	s := &search{known: &c.known, body: clause.Body, order: variables(clause.Terms())}
 	ofHead := len(variables(clause.Head.Terms))
-	var heads []facts.Fact
+	var steps []Step
 	for bound := range s.between(0, ofHead, binding{}) {
 		head := bound.fact(clause.Head)
-		if !known.Has(head) && s.canEnd(ofHead, bound) {
-			heads = append(heads, head)
+		if c.known.Has(head) {
+			continue
+		}
+		if whole, found := s.first(ofHead, len(s.order), bound); found {
+			steps = append(steps, Step{head, number, whole.needs(clause.Body)})
 		}
 	}
-	return heads
+	return steps
 }
 
 // variables answers the VARIABLEs among the terms, as they come first.

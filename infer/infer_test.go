@@ -94,7 +94,7 @@ func TestBetweenStopsAtAPlace(t *testing.T) {
 	var got []string
 	for bound := range s.between(0, 1, binding{}) {
 		got = append(got, shown(s.order, bound))
-		if !s.canEnd(1, bound) {
+		if _, found := s.first(1, 2, bound); !found {
 			t.Errorf("%q cannot end", shown(s.order, bound))
 		}
 	}
@@ -102,7 +102,7 @@ func TestBetweenStopsAtAPlace(t *testing.T) {
 		t.Errorf("between = %q, want %q", got, want)
 	}
 	s = searchOf(t, steps, "h(X) :- n(X), s(Y,Z), Z < Y.")
-	if s.canEnd(1, binding{}.with('X', facts.ThingOf("1"))) {
+	if _, found := s.first(1, 3, binding{}.with('X', facts.ThingOf("1"))); found {
 		t.Errorf("a body can end that cannot hold")
 	}
 }
@@ -122,15 +122,82 @@ func TestLayers(t *testing.T) {
 		"p(X) :- p(X), !q(X). q(X) :- q(X), !r(X). t(X) :- p(X).":     "/q/pt",
 	} {
 		var parts []string
-		for _, layer := range layers(read(t, program)) {
+		clauses := read(t, program)
+		for _, layer := range layers(clauses) {
 			var names string
-			for _, clause := range layer {
-				names += clause.Head.Name
+			for _, number := range layer {
+				names += clauses[number].Head.Name
 			}
 			parts = append(parts, names)
 		}
 		if got := strings.Join(parts, "/"); got != want {
 			t.Errorf("%q has the layers %q, want %q", program, got, want)
+		}
+	}
+}
+
+func bodyOf(t *testing.T, text string) syntax.Body {
+	t.Helper()
+	body, place, ok := syntax.ReadBody(text)
+	if !ok {
+		t.Fatalf("%q breaks off at %d", text, place)
+	}
+	return body
+}
+
+func TestAnswersStandInTheOrderOfTheBody(t *testing.T) {
+	known := Follow(read(t, steps))
+	var got []string
+	for values := range Answers(known, bodyOf(t, "Y # 2, s(X,Y)")) {
+		var line string
+		for _, value := range values {
+			line += string(value.Variable) + value.Thing.String()
+		}
+		got = append(got, line)
+	}
+	if want := []string{"Y10X2", "YaX2", "YaX10"}; !slices.Equal(got, want) {
+		t.Errorf("Answers = %q, want %q", got, want)
+	}
+}
+
+func TestAnswersMayBeLeftEarly(t *testing.T) {
+	known := Follow(read(t, steps))
+	all := Answers(known, bodyOf(t, "n(X), n(Y)"))
+	for end := 1; end <= 16; end++ {
+		var kept [][]Value
+		for values := range all {
+			kept = append(kept, values)
+			if len(kept) == end {
+				break
+			}
+		}
+		// What was handed out shares no memory with what comes later.
+		want := []Value{{'X', "001"}, {'Y', "001"}}
+		if len(kept) != end || !slices.Equal(kept[0], want) {
+			t.Fatalf("Answers was left after %d, with %v first", len(kept), kept[0])
+		}
+	}
+}
+
+func TestWhyAnswersOnlyWhatIsNeeded(t *testing.T) {
+	clauses := read(t, "n(a). n(b). n(c). p(X) :- n(X). q(X) :- p(X), n(Y), X < Y. r(X) :- q(X).")
+	for fact, want := range map[string]string{
+		"n(c).": "n(c).2",
+		"p(b).": "n(b).1 p(b).3",
+		"r(b).": "n(b).1 n(c).2 p(b).3 q(b).4 r(b).5",
+		"r(c).": "",
+		"z(a).": "",
+	} {
+		sought, ok := syntax.ReadFact(fact)
+		if !ok {
+			t.Fatalf("%q is no fact", fact)
+		}
+		var steps []string
+		for _, step := range Why(clauses, sought) {
+			steps = append(steps, step.Fact.String()+string(rune('0'+step.Clause)))
+		}
+		if got := strings.Join(steps, " "); got != want {
+			t.Errorf("Why of %q = %q, want %q", fact, got, want)
 		}
 	}
 }

@@ -2,16 +2,17 @@ package infer
 
 import "augur/syntax"
 
-// layers parts the clauses by the layers of their heads, the lowest first.
-func layers(clauses []syntax.Clause) [][]syntax.Clause {
+// layers parts the numbers of the clauses by the layers of their heads, the
+// lowest first.
+func layers(clauses []syntax.Clause) [][]int {
 	layerOf := numberLayers(clauses)
-	var parts [][]syntax.Clause
-	for _, clause := range clauses {
+	var parts [][]int
+	for number, clause := range clauses {
 		layer := layerOf[clause.Head.Name]
 		for len(parts) <= layer {
 			parts = append(parts, nil)
 		}
-		parts[layer] = append(parts[layer], clause)
+		parts[layer] = append(parts[layer], number)
 	}
 	return parts
 }
@@ -35,7 +36,7 @@ func numberLayers(clauses []syntax.Clause) map[string]int {
 }
 
 // leastLayer tells the lowest layer in which a head with this body can be.
-func leastLayer(layerOf map[string]int, body []syntax.Literal) int {
+func leastLayer(layerOf map[string]int, body syntax.Body) int {
 	least := 0
 	for _, literal := range body {
 		switch literal.Sort {

@@ -13,7 +13,7 @@ import (
 // what is known. It binds them one by one, in its order.
 type search struct {
 	known *facts.Set
-	body  []syntax.Literal
+	body  syntax.Body
 	order []rune
 }
 
@@ -41,13 +41,12 @@ func (s *search) between(from, to int, bound binding) iter.Seq[binding] {
 	}
 }
 
-// canEnd tells whether the VARIABLEs from a place on can be anything. One
-// thing that they can be is enough to know.
-func (s *search) canEnd(from int, bound binding) bool {
-	for range s.between(from, len(s.order), bound) {
-		return true
+// first answers the first one that between goes through, if there is any.
+func (s *search) first(from, to int, bound binding) (binding, bool) {
+	for further := range s.between(from, to, bound) {
+		return further, true
 	}
-	return false
+	return binding{}, false
 }
 
 // fails tells whether a literal of which nothing is open does not hold.

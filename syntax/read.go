@@ -24,6 +24,33 @@ func ReadProgram(text string) (clauses []Clause, place int, ok bool) {
 	return clauses, 0, true
 }
 
+// ReadBody is ReadProgram for a text that is a body.
+func ReadBody(text string) (body Body, place int, ok bool) {
+	r := &reader{marks: cut(text)}
+	body, ok = r.body()
+	if !ok || !r.wantEnd() {
+		return nil, r.broken, false
+	}
+	return body, 0, true
+}
+
+// ReadFact answers a fact. If the text is none as it is written, ok is false.
+func ReadFact(text string) (fact facts.Fact, ok bool) {
+	clauses, _, ok := ReadProgram(text)
+	if !ok || len(clauses) != 1 {
+		return facts.Fact{}, false
+	}
+	fact.Name = clauses[0].Head.Name
+	for _, term := range clauses[0].Head.Terms {
+		fact.Things = append(fact.Things, term.Thing)
+	}
+	// What is more in the text, or no thing, is not written again.
+	if fact.String() != text {
+		return facts.Fact{}, false
+	}
+	return fact, true
+}
+
 // here tells the place of the next mark.
 func (r *reader) here() int {
 	return r.marks[r.next].place
@@ -56,6 +83,11 @@ func (r *reader) want(text string) bool {
 	return r.take(text) || r.breakAt(r.here())
 }
 
+// wantEnd tells whether the text ends here, where nothing else can stand.
+func (r *reader) wantEnd() bool {
+	return r.marks[r.next].kind == end || r.breakAt(r.here())
+}
+
 func (r *reader) clause() (Clause, bool) {
 	head, ok := r.atom()
 	if !ok {
@@ -75,8 +107,8 @@ func (r *reader) clause() (Clause, bool) {
 	return clause, r.want(".")
 }
 
-func (r *reader) body() ([]Literal, bool) {
-	var body []Literal
+func (r *reader) body() (Body, bool) {
+	var body Body
 	for {
 		literal, ok := r.literal()
 		if !ok {

@@ -3,6 +3,8 @@ package syntax
 import (
 	"reflect"
 	"testing"
+
+	"augur/facts"
 )
 
 func TestCut(t *testing.T) {
@@ -79,5 +81,41 @@ func TestAtomsAndTermsStandInTheirOrder(t *testing.T) {
 	}
 	if names != "pqr" || terms != "aXYbcZ1" {
 		t.Errorf("Atoms have the names %q, Terms are %q", names, terms)
+	}
+}
+
+func TestReadBody(t *testing.T) {
+	text := " q(X), !r(1) , X # a "
+	want := Body{
+		{Place: 1, Sort: Present, Atom: Atom{1, "q", []Term{{Variable: 'X'}}}},
+		{Place: 7, Sort: Absent, Atom: Atom{8, "r", []Term{{Thing: "001"}}}},
+		{Place: 15, Sort: Other, Left: Term{Variable: 'X'}, Right: Term{Thing: "a"}},
+	}
+	if got, place, ok := ReadBody(text); !ok || place != 0 || !reflect.DeepEqual(got, want) {
+		t.Errorf("ReadBody(%q) = %v, %d, %v, want %v", text, got, place, ok, want)
+	}
+	for text, want := range map[string]int{"": 0, "q(X).": 4, "q(X),": 5, "q(X) r(X)": 5, "q(X) :- r(X)": 5, "q(X": 3} {
+		if got, place, ok := ReadBody(text); ok || place != want || got != nil {
+			t.Errorf("ReadBody(%q) = %v, %d, %v, want %d", text, got, place, ok, want)
+		}
+	}
+}
+
+func TestReadFact(t *testing.T) {
+	for text, want := range map[string]facts.Fact{
+		"p(a).":         {Name: "p", Things: []facts.Thing{"a"}},
+		"abcd(0,wxyz).": {Name: "abcd", Things: []facts.Thing{"000", "wxyz"}},
+		"p(99,1,a).":    {Name: "p", Things: []facts.Thing{"099", "001", "a"}},
+	} {
+		if got, ok := ReadFact(text); !ok || !reflect.DeepEqual(got, want) {
+			t.Errorf("ReadFact(%q) = %v, %v, want %v", text, got, ok, want)
+		}
+	}
+	for _, text := range []string{
+		"", "p(a)", "p(a). ", " p(a).", "p(a, b).", "p(X).", "p(a,X).", "p(a):-q(a).", "p(a).p(a).", "p(01).", "p(abcde).", "p(é).",
+	} {
+		if got, ok := ReadFact(text); ok || !reflect.DeepEqual(got, facts.Fact{}) {
+			t.Errorf("ReadFact(%q) = %v, %v", text, got, ok)
+		}
 	}
 }

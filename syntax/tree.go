@@ -1,7 +1,11 @@
 // Package syntax reads texts of clauses into trees.
 package syntax
 
-import "augur/facts"
+import (
+	"slices"
+
+	"augur/facts"
+)
 
 // Term is a VARIABLE or a thing.
 type Term struct {
@@ -49,16 +53,13 @@ func (l Literal) Terms() []Term {
 	return []Term{l.Left, l.Right}
 }
 
-// Clause is a head and what it hangs on. Its first byte is the head's.
-type Clause struct {
-	Head Atom
-	Body []Literal
-}
+// Body is the literals that must all hold.
+type Body []Literal
 
-// Atoms answers the head and the atoms of the body, in their order.
-func (c Clause) Atoms() []Atom {
-	atoms := []Atom{c.Head}
-	for _, literal := range c.Body {
+// Atoms answers the atoms of the body, with `!` ahead or not, in their order.
+func (b Body) Atoms() []Atom {
+	var atoms []Atom
+	for _, literal := range b {
 		if literal.HasAtom() {
 			atoms = append(atoms, literal.Atom)
 		}
@@ -66,12 +67,27 @@ func (c Clause) Atoms() []Atom {
 	return atoms
 }
 
-// Terms answers the terms of the head and of the body, in their order.
-func (c Clause) Terms() []Term {
+// Terms answers the terms of the body, in their order.
+func (b Body) Terms() []Term {
 	var terms []Term
-	terms = append(terms, c.Head.Terms...)
-	for _, literal := range c.Body {
+	for _, literal := range b {
 		terms = append(terms, literal.Terms()...)
 	}
 	return terms
+}
+
+// Clause is a head and what it hangs on. Its first byte is the head's.
+type Clause struct {
+	Head Atom
+	Body Body
+}
+
+// Atoms answers the head and the atoms of the body, in their order.
+func (c Clause) Atoms() []Atom {
+	return append([]Atom{c.Head}, c.Body.Atoms()...)
+}
+
+// Terms answers the terms of the head and of the body, in their order.
+func (c Clause) Terms() []Term {
+	return slices.Concat(c.Head.Terms, c.Body.Terms())
 }
