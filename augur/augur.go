@@ -1,7 +1,11 @@
 // Package augur tells what follows from rules: see DOC.md.
 package augur
 
-import "augur/infer"
+import (
+	"augur/facts"
+	"augur/infer"
+	"augur/syntax"
+)
 
 // Errno is what a call answers: OK or the reason for a refusal.
 type Errno int
@@ -64,16 +68,50 @@ func Why(program string, fact string) (string, Errno, int) {
 }
 
 // Base is a program and facts beside it. Make it by Start.
-type Base struct{}
+type Base struct {
+	program []syntax.Clause
+	beside  facts.Set
+}
 
 // Start makes a base (P8).
-func Start(program string) (*Base, Errno, int) { return nil, OK, 0 }
+func Start(program string) (*Base, Errno, int) {
+	clauses, e, place := load(program)
+	if e != OK {
+		return nil, e, place
+	}
+	return &Base{program: clauses}, OK, 0
+}
 
 // Insert lays a fact beside the program (P8).
-func (b *Base) Insert(fact string) Errno { return OK }
+func (b *Base) Insert(fact string) Errno {
+	b = b.orEmpty()
+	laid, e := loadFactOf(b.program, fact)
+	if e != OK {
+		return e
+	}
+	if b.beside.Has(laid) {
+		return ErrThere
+	}
+	b.beside.Add(laid)
+	return OK
+}
 
 // Delete takes it away (P8).
-func (b *Base) Delete(fact string) Errno { return OK }
+func (b *Base) Delete(fact string) Errno {
+	b = b.orEmpty()
+	taken, e := loadFactOf(b.program, fact)
+	if e != OK {
+		return e
+	}
+	if !b.beside.Has(taken) {
+		return ErrNone
+	}
+	b.beside.Remove(taken)
+	return OK
+}
 
 // Model tells all that follows (P9).
-func (b *Base) Model() string { return "" }
+func (b *Base) Model() string {
+	b = b.orEmpty()
+	return infer.Follow(withFacts(b.program, &b.beside)).String()
+}

@@ -63,11 +63,7 @@ type census struct {
 func (c *census) count(clause syntax.Clause) {
 	c.clauses++
 	c.names = addNames(c.names, clause)
-	for _, term := range clause.Terms() {
-		if term.Variable == 0 {
-			c.things = rising.Add(c.things, term.Thing)
-		}
-	}
+	c.things = addThings(c.things, clause)
 }
 
 func (c *census) isTooMany() bool {
@@ -190,4 +186,14 @@ func addNames(names []string, clause syntax.Clause) []string {
 		names = rising.Add(names, atom.Name)
 	}
 	return names
+}
+
+// addThings adds the things of the clause to a rising list.
+func addThings(things []facts.Thing, clause syntax.Clause) []facts.Thing {
+	for _, term := range clause.Terms() {
+		if term.Variable == 0 {
+			things = rising.Add(things, term.Thing)
+		}
+	}
+	return things
 }

@@ -57,6 +57,19 @@ func (s *Set) Add(fact Fact) {
 	}
 }
 
+// Remove takes a fact out.
+func (s *Set) Remove(fact Fact) {
+	at, found := slices.BinarySearchFunc(s.list, fact, compare)
+	if found {
+		s.list = slices.Delete(s.list, at, at+1)
+	}
+}
+
+// All goes through the facts, in order.
+func (s *Set) All() iter.Seq[Fact] {
+	return slices.Values(s.list)
+}
+
 // Of goes through the facts of a relation, in order.
 func (s *Set) Of(name string) iter.Seq[Fact] {
 	return func(yield func(Fact) bool) {

@@ -126,3 +126,58 @@ func TestOfGoesThroughOneRelation(t *testing.T) {
 		t.Errorf("Of was left after %d facts", count)
 	}
 }
+
+func TestRemoveTakesOneFactOut(t *testing.T) {
+	all := someFacts()
+	for at, gone := range all {
+		var s Set
+		for _, f := range all {
+			s.Add(f)
+		}
+		s.Remove(gone)
+		s.Remove(gone)
+		if s.Has(gone) {
+			t.Errorf("%v is there behind Remove", gone)
+		}
+		want := append(someFacts()[:at], all[at+1:]...)
+		if got := slices.Collect(s.All()); !slices.EqualFunc(got, want, isSame) {
+			t.Errorf("without %v the set is %v, want %v", gone, got, want)
+		}
+		s.Add(gone)
+		if got := slices.Collect(s.All()); !slices.EqualFunc(got, all, isSame) {
+			t.Errorf("with %v again the set is %v, want %v", gone, got, all)
+		}
+	}
+}
+
+func isSame(a, b Fact) bool {
+	return compare(a, b) == 0
+}
+
+func TestRemoveOfWhatIsNotThere(t *testing.T) {
+	var s Set
+	s.Remove(fact("p", "a"))
+	s.Add(fact("p", "b"))
+	for _, f := range []Fact{fact("p", "a"), fact("p", "c"), fact("p"), fact("p", "b", "b"), fact("q", "b")} {
+		s.Remove(f)
+	}
+	if got := s.String(); got != "p(b).\n" {
+		t.Errorf("the set is %q", got)
+	}
+}
+
+func TestAllMayBeLeft(t *testing.T) {
+	var s Set
+	for range s.All() {
+		t.Errorf("the zero Set has a fact")
+	}
+	for _, f := range someFacts() {
+		s.Add(f)
+	}
+	for f := range s.All() {
+		if f.String() != "p(9)." {
+			t.Errorf("the first fact is %v", f)
+		}
+		break
+	}
+}

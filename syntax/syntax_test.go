@@ -119,3 +119,13 @@ func TestReadFact(t *testing.T) {
 		}
 	}
 }
+
+func TestClauseOf(t *testing.T) {
+	for _, text := range []string{"p(a).", "abcd(0,wxyz).", "p(99,10)."} {
+		fact, _ := ReadFact(text)
+		want, _, _ := ReadProgram(text)
+		if got := ClauseOf(fact); !reflect.DeepEqual([]Clause{got}, want) {
+			t.Errorf("ClauseOf(%v) = %v, want %v", fact, got, want)
+		}
+	}
+}

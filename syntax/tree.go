@@ -82,6 +82,16 @@ type Clause struct {
 	Body Body
 }
 
+// ClauseOf answers the clause that a fact is. It stands in no text: its place
+// is 0.
+func ClauseOf(fact facts.Fact) Clause {
+	head := Atom{Name: fact.Name}
+	for _, thing := range fact.Things {
+		head.Terms = append(head.Terms, Term{Thing: thing})
+	}
+	return Clause{Head: head}
+}
+
 // Atoms answers the head and the atoms of the body, in their order.
 func (c Clause) Atoms() []Atom {
 	return append([]Atom{c.Head}, c.Body.Atoms()...)
